@@ -4,32 +4,17 @@ package holds
 import (
 	"lists/api"
 	"lists/cells"
+	"lists/classes"
 	"lists/syntax"
-)
-
-// Terms are numbered: nil, the variables, the hidden names.
-const (
-	firstHidden = 1 + api.MaxVars
-	terms       = firstHidden + api.MaxHidden
 )
 
 // unknown is the value of a hidden name that nothing has settled.
 const unknown = -1
 
-// pair is an atom of two classes.
-type pair struct {
-	kind  int
-	left  int
-	right int
-}
-
-// search looks for values of the hidden names. Terms that are said to be equal
-// are one class, so that only `!=` and the atoms with cells remain.
+// search looks for values of the hidden names.
 type search struct {
-	class [terms]int
-	value [terms]int // by class
-	apart []pair
-	owner []pair
+	form  *classes.Formula
+	value [classes.Terms]int // by class
 	heap  *cells.Cells
 	used  []bool // by cell: whether an atom has it
 	free  int    // how many cells no atom has
@@ -38,62 +23,28 @@ type search struct {
 // Holds tells whether the atoms hold together of a store and cells (P5).
 func Holds(atoms []syntax.Atom, store []int, heap *cells.Cells) bool {
 	s := &search{heap: heap}
+	s.form = classes.Of(atoms)
 	s.free = heap.Len()
 	s.used = make([]bool, s.free)
-	s.merge(atoms)
 	if !s.settle(store) {
 		return false
 	}
-	s.sort(atoms)
 	// Each of them has a cell at least. This also bounds the search.
-	if len(s.owner) > s.free {
+	if len(s.form.Owners) > s.free {
 		return false
 	}
 	return s.fill(0)
 }
 
-// number tells a term's number.
-func number(t syntax.Term) int {
-	switch t.Kind {
-	case syntax.Var:
-		return 1 + t.Index
-	case syntax.Hidden:
-		return firstHidden + t.Index
-	}
-	return 0
-}
-
-// merge makes classes of the terms that are said to be equal.
-func (s *search) merge(atoms []syntax.Atom) {
-	for i := 0; i < terms; i++ {
-		s.class[i] = i
-	}
-	for _, a := range atoms {
-		if a.Kind == syntax.Equal {
-			kept := s.class[number(a.Left)]
-			gone := s.class[number(a.Right)]
-			s.join(kept, gone)
-		}
-	}
-}
-
-func (s *search) join(kept int, gone int) {
-	for i := 0; i < terms; i++ {
-		if s.class[i] == gone {
-			s.class[i] = kept
-		}
-	}
-}
-
 // settle gives the classes of nil and of the variables their values; false, if
 // a class would have two.
 func (s *search) settle(store []int) bool {
-	for i := 0; i < terms; i++ {
+	for i := 0; i < classes.Terms; i++ {
 		s.value[i] = unknown
 	}
-	s.value[s.class[0]] = 0
+	s.value[s.form.Class[0]] = 0
 	for i := 0; i < len(store) && i < api.MaxVars; i++ {
-		c := s.class[1+i]
+		c := s.form.Class[1+i]
 		if s.value[c] != unknown && s.value[c] != store[i] {
 			return false
 		}
@@ -102,25 +53,12 @@ func (s *search) settle(store []int) bool {
 	return true
 }
 
-// sort parts the atoms by what the search does with them.
-func (s *search) sort(atoms []syntax.Atom) {
-	for _, a := range atoms {
-		p := pair{kind: a.Kind, left: s.class[number(a.Left)], right: s.class[number(a.Right)]}
-		switch a.Kind {
-		case syntax.Unequal:
-			s.apart = append(s.apart, p)
-		case syntax.Points, syntax.List:
-			s.owner = append(s.owner, p)
-		}
-	}
-}
-
 // fill finds cells for the atoms from the k-th on.
 func (s *search) fill(k int) bool {
-	if k >= len(s.owner) {
+	if k >= len(s.form.Owners) {
 		return s.free == 0 && s.differ()
 	}
-	left := s.owner[k].left
+	left := s.form.Owners[k].Left
 	addr := s.value[left]
 	if addr != unknown {
 		return s.walk(k, addr)
@@ -148,7 +86,7 @@ func (s *search) walk(k int, addr int) bool {
 	s.free--
 	next := s.heap.At(i).Next
 	ok := s.end(k, next)
-	if !ok && s.owner[k].kind == syntax.List {
+	if !ok && s.form.Owners[k].Kind == syntax.List {
 		ok = s.walk(k, next)
 	}
 	s.used[i] = false
@@ -158,7 +96,7 @@ func (s *search) walk(k int, addr int) bool {
 
 // end lets the k-th atom's last cell hold a value, and tries the other atoms.
 func (s *search) end(k int, next int) bool {
-	right := s.owner[k].right
+	right := s.form.Owners[k].Right
 	before := s.value[right]
 	if before != unknown && before != next {
 		return false
@@ -172,11 +110,11 @@ func (s *search) end(k int, next int) bool {
 // differ tells whether `!=` holds of all. A class that is still unknown belongs
 // to no cell, and there are numbers enough for it to be like nothing else.
 func (s *search) differ() bool {
-	for _, p := range s.apart {
-		if p.left == p.right {
+	for _, p := range s.form.Apart {
+		if p.Left == p.Right {
 			return false
 		}
-		if s.value[p.left] != unknown && s.value[p.left] == s.value[p.right] {
+		if s.value[p.Left] != unknown && s.value[p.Left] == s.value[p.Right] {
 			return false
 		}
 	}

@@ -3,6 +3,7 @@ package lists
 
 import (
 	"lists/api"
+	"lists/follows"
 	"lists/machine"
 	"lists/syntax"
 )
@@ -82,7 +83,13 @@ func (r *Run) State() api.State {
 }
 
 // Entails tells whether one formula is seen to follow from another (P9).
-func Entails(s string, t string) (bool, api.Errno) { return false, api.OK }
+func Entails(s string, t string) (bool, api.Errno) {
+	first, second, e := syntax.ReadTwo(s, t)
+	if e != api.OK {
+		return false, e
+	}
+	return follows.Follows(first, second)
+}
 
 // Verdict tells what the analyser says (P10). As long as nothing is analysed it
 // could not tell.

@@ -18,14 +18,11 @@ type parser struct {
 
 // Read reads a program (P3, P4).
 func Read(s string) (*Program, api.Errno) {
-	if len(s) > api.MaxText {
-		return nil, api.ErrLong
+	p := &parser{}
+	e := p.open(s)
+	if e != api.OK {
+		return nil, e
 	}
-	list, ok := words.Split(s)
-	if !ok {
-		return nil, api.ErrLex
-	}
-	p := &parser{words: list}
 	pre := p.program()
 	if p.failed {
 		return nil, api.ErrSyntax
@@ -33,7 +30,30 @@ func Read(s string) (*Program, api.Errno) {
 	if len(p.vars) > api.MaxVars || len(p.hidden) > api.MaxHidden {
 		return nil, api.ErrNames
 	}
-	return &Program{Text: words.Join(list), Vars: p.vars, Pre: pre, Nodes: p.nodes}, api.OK
+	return &Program{Text: words.Join(p.words), Vars: p.vars, Pre: pre, Nodes: p.nodes}, api.OK
+}
+
+// open lays the words of a text ahead of the parser. Its hidden names are its
+// own; variables are the same in all texts of one parser.
+func (p *parser) open(s string) api.Errno {
+	if len(s) > api.MaxText {
+		return api.ErrLong
+	}
+	list, ok := words.Split(s)
+	if !ok {
+		return api.ErrLex
+	}
+	p.words = list
+	p.at = 0
+	p.hidden = nil
+	return api.OK
+}
+
+// finish sees to it that no word is left.
+func (p *parser) finish() {
+	if p.at != len(p.words) {
+		p.failed = true
+	}
 }
 
 func (p *parser) program() []Atom {
@@ -41,9 +61,7 @@ func (p *parser) program() []Atom {
 	pre := p.formula()
 	p.block()
 	p.add(Node{Op: End})
-	if p.at != len(p.words) {
-		p.failed = true
-	}
+	p.finish()
 	return pre
 }
 
@@ -69,63 +87,6 @@ func (p *parser) expect(w string) {
 	if !p.accept(w) {
 		p.failed = true
 	}
-}
-
-func (p *parser) formula() []Atom {
-	first := p.atom()
-	list := []Atom{first}
-	for p.accept("*") {
-		next := p.atom()
-		list = append(list, next)
-	}
-	return list
-}
-
-func (p *parser) atom() Atom {
-	if p.accept("emp") {
-		return Atom{Kind: Emp}
-	}
-	if p.accept("ls") {
-		return p.list()
-	}
-	left := p.term()
-	kind := p.relation()
-	right := p.term()
-	return Atom{Kind: kind, Left: left, Right: right}
-}
-
-func (p *parser) list() Atom {
-	p.expect("(")
-	left := p.term()
-	p.expect(",")
-	right := p.term()
-	p.expect(")")
-	return Atom{Kind: List, Left: left, Right: right}
-}
-
-// relation takes the sign of an atom.
-func (p *parser) relation() int {
-	if p.accept("=") {
-		return Equal
-	}
-	if p.accept("!=") {
-		return Unequal
-	}
-	p.expect("->")
-	return Points
-}
-
-func (p *parser) term() Term {
-	w := p.peek()
-	if words.IsHidden(w) {
-		p.at++
-		i := place(p.hidden, w[0])
-		if i == len(p.hidden) {
-			p.hidden = append(p.hidden, w[0])
-		}
-		return Term{Kind: Hidden, Index: i}
-	}
-	return p.value()
 }
 
 // value takes what commands and tests may name: nil or a variable.

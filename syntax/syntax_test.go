@@ -86,3 +86,18 @@ func TestAtOutside(t *testing.T) {
 		t.Errorf("At(0) = %+v", n)
 	}
 }
+
+func TestReadTwo(t *testing.T) {
+	first, second, e := ReadTwo("y -> A * B != x", "x = B * ls(C,B) * z = y")
+	wantFirst := []Atom{{Points, variable(0), hidden(0)}, {Unequal, hidden(1), variable(1)}}
+	wantSecond := []Atom{{Equal, variable(1), hidden(0)}, {List, hidden(1), hidden(0)}, {Equal, variable(2), variable(0)}}
+	if e != api.OK || !reflect.DeepEqual(first, wantFirst) || !reflect.DeepEqual(second, wantSecond) {
+		t.Errorf("P9: %+v, %+v, %d", first, second, e)
+	}
+	for _, c := range [][2]string{{"", "emp"}, {"emp", ""}, {"emp", "#"}, {"a=b*c=d", "e=a"}, {"emp", "A=B*C=D*E=F*G=H*I=A"}} {
+		first, second, e := ReadTwo(c[0], c[1])
+		if e == api.OK || first != nil || second != nil {
+			t.Errorf("P9: %q: %v, %v, %d", c, first, second, e)
+		}
+	}
+}
