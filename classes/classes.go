@@ -1,5 +1,6 @@
 // Package classes makes one of the terms that a formula says are equal: only
-// `!=` and the atoms with cells remain of it then.
+// `!=` and the atoms with cells remain of it then. Such a formula is also what
+// the analyser knows at a place of a program.
 package classes
 
 import (
@@ -13,6 +14,10 @@ const (
 	Terms       = FirstHidden + api.MaxHidden
 )
 
+// Most is how many classes a formula may have: they are numbered below it. All
+// terms of a text have room.
+const Most = api.MaxClasses
+
 // Pair is an atom of two classes, its kind as in package syntax.
 type Pair struct {
 	Kind  int
@@ -20,18 +25,29 @@ type Pair struct {
 	Right int
 }
 
-// Formula is a formula in classes. A class has the number of one of its terms.
+// Formula is a formula in classes. Hidden names are known by their classes alone.
 type Formula struct {
-	Class  [Terms]int // by term
-	Apart  []Pair     // `!=`
-	Owners []Pair     // the atoms with cells
+	Class  [FirstHidden]int // of nil, and of the variables
+	Apart  []Pair           // `!=`
+	Owners []Pair           // the atoms with cells
 }
 
 // Of writes a formula in classes.
 func Of(atoms []syntax.Atom) *Formula {
+	class := merge(atoms)
 	f := &Formula{}
-	f.merge(atoms)
-	f.sort(atoms)
+	for i := 0; i < FirstHidden; i++ {
+		f.Class[i] = class[i]
+	}
+	for _, a := range atoms {
+		p := Pair{Kind: a.Kind, Left: class[number(a.Left)], Right: class[number(a.Right)]}
+		switch a.Kind {
+		case syntax.Unequal:
+			f.Apart = append(f.Apart, p)
+		case syntax.Points, syntax.List:
+			f.Owners = append(f.Owners, p)
+		}
+	}
 	return f
 }
 
@@ -46,39 +62,25 @@ func number(t syntax.Term) int {
 	return 0
 }
 
-// merge makes classes of the terms that are said to be equal.
-func (f *Formula) merge(atoms []syntax.Atom) {
+// merge tells the terms' classes: those that are said to be equal have one.
+func merge(atoms []syntax.Atom) [Terms]int {
+	var class [Terms]int
 	for i := 0; i < Terms; i++ {
-		f.Class[i] = i
+		class[i] = i
 	}
 	for _, a := range atoms {
-		if a.Kind == syntax.Equal {
-			kept := f.Class[number(a.Left)]
-			gone := f.Class[number(a.Right)]
-			f.join(kept, gone)
+		if a.Kind != syntax.Equal {
+			continue
+		}
+		kept := class[number(a.Left)]
+		gone := class[number(a.Right)]
+		for i := 0; i < Terms; i++ {
+			if class[i] == gone {
+				class[i] = kept
+			}
 		}
 	}
-}
-
-func (f *Formula) join(kept int, gone int) {
-	for i := 0; i < Terms; i++ {
-		if f.Class[i] == gone {
-			f.Class[i] = kept
-		}
-	}
-}
-
-// sort parts the other atoms by whether they have cells.
-func (f *Formula) sort(atoms []syntax.Atom) {
-	for _, a := range atoms {
-		p := Pair{Kind: a.Kind, Left: f.Class[number(a.Left)], Right: f.Class[number(a.Right)]}
-		switch a.Kind {
-		case syntax.Unequal:
-			f.Apart = append(f.Apart, p)
-		case syntax.Points, syntax.List:
-			f.Owners = append(f.Owners, p)
-		}
-	}
+	return class
 }
 
 // False tells whether the formula holds nowhere. Where it answers false, the
@@ -89,7 +91,7 @@ func (f *Formula) False() bool {
 			return true
 		}
 	}
-	var begun [Terms]bool
+	var begun [Most]bool
 	begun[f.Class[0]] = true // no cell is at nil
 	for _, p := range f.Owners {
 		if begun[p.Left] {
@@ -98,4 +100,36 @@ func (f *Formula) False() bool {
 		begun[p.Left] = true
 	}
 	return false
+}
+
+// Begins tells which of the atoms with cells begins at a class: -1, if none does.
+func (f *Formula) Begins(class int) int {
+	for i := 0; i < len(f.Owners); i++ {
+		if f.Owners[i].Left == class {
+			return i
+		}
+	}
+	return -1
+}
+
+// Differ tells whether two classes never have one value: the formula says so, or
+// both begin an atom, or one does and the other is nil.
+func (f *Formula) Differ(a int, b int) bool {
+	if a == b {
+		return false
+	}
+	for _, p := range f.Apart {
+		if p.Left == a && p.Right == b || p.Left == b && p.Right == a {
+			return true
+		}
+	}
+	return f.clear(a, b)
+}
+
+// clear tells whether the atoms with cells keep two classes apart.
+func (f *Formula) clear(a int, b int) bool {
+	null := f.Class[0]
+	first := f.Begins(a) >= 0
+	second := f.Begins(b) >= 0
+	return first && (second || b == null) || second && a == null
 }

@@ -21,7 +21,7 @@ func TestOf(t *testing.T) {
 	f := of(t, "emp * x = A * y != x * A -> B * ls(y,A) * nil = B")
 	x, y := f.Class[1], f.Class[2]
 	null := f.Class[0]
-	if f.Class[FirstHidden] != x || f.Class[FirstHidden+1] != null || x == y || x == null || y == null {
+	if x == y || x == null || y == null {
 		t.Errorf("classes %v", f.Class)
 	}
 	if want := []Pair{{syntax.Unequal, y, x}}; !reflect.DeepEqual(f.Apart, want) {
@@ -35,16 +35,15 @@ func TestOf(t *testing.T) {
 // Terms of which nothing is said are classes by themselves; what is said of
 // equal terms goes round corners, and comes in any order.
 func TestClassesGoRoundCorners(t *testing.T) {
-	f := of(t, "x -> y * A = B * C = D * x = A * D = y * B = C")
-	for _, i := range []int{1, 2, FirstHidden, FirstHidden + 1, FirstHidden + 2, FirstHidden + 3} {
-		if f.Class[i] != f.Class[1] {
-			t.Errorf("term %d is not of the class: %v", i, f.Class)
-		}
+	f := of(t, "x -> y * z -> w * A = B * C = D * x = A * D = y * B = C * E -> D * F -> E")
+	x := f.Class[1]
+	if f.Class[2] != x || f.Class[0] == x || f.Class[3] == x || f.Class[4] == x || f.Class[3] == f.Class[4] || f.Class[0] == f.Class[3] {
+		t.Errorf("classes %v", f.Class)
 	}
-	for _, i := range []int{0, 3, 4, FirstHidden + 4} {
-		if f.Class[i] != i {
-			t.Errorf("term %d is not alone: %v", i, f.Class)
-		}
+	first, last := f.Owners[2].Left, f.Owners[3].Left
+	want := []Pair{{syntax.Points, x, x}, {syntax.Points, f.Class[3], f.Class[4]}, {syntax.Points, first, x}, {syntax.Points, last, first}}
+	if !reflect.DeepEqual(f.Owners, want) || first == last || f.Named(first) || f.Named(last) {
+		t.Errorf("owners %v, want %v", f.Owners, want)
 	}
 }
 

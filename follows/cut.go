@@ -8,7 +8,7 @@ import (
 // inner answers the classes of the first's i-th atom's second cell and last
 // cell. No term is in them.
 func inner(i int) (int, int) {
-	near := classes.Terms + 2*i
+	near := classes.Most + 2*i
 	return near, near + 1
 }
 
@@ -61,15 +61,15 @@ func (q *search) torn(atoms []classes.Pair) int {
 // something begins or ends between them.
 func (q *search) tears(i int) bool {
 	near, far := inner(i)
-	middle := q.begins(near)
-	last := q.begins(far)
+	middle := q.view.Begins(near)
+	last := q.view.Begins(far)
 	if middle < 0 || last < 0 {
 		return true
 	}
 	if q.owner[middle] != q.owner[i] || q.owner[last] != q.owner[i] {
 		return true
 	}
-	for c := 0; c < classes.Terms; c++ {
+	for c := 0; c < classes.Most; c++ {
 		if q.bound[c] == near || q.bound[c] == far {
 			return true
 		}

@@ -19,12 +19,12 @@ const none = -1
 type search struct {
 	first  *classes.Formula
 	second *classes.Formula
-	anchor [classes.Terms]int // by class of the second: the class of the first that it must be
-	bound  [classes.Terms]int // by class of the second: the class of the first that it is
-	atoms  []classes.Pair     // the first's
-	owner  []int              // by atom of the first: the atom of the second that has it
-	unused int                // how many of the first's nobody has
-	placed []bool             // by atom of the second
+	anchor [classes.Most]int // by class of the second: the class of the first that it must be
+	bound  [classes.Most]int // by class of the second: the class of the first that it is
+	view   *classes.Formula  // the first as it is looked at
+	owner  []int             // by atom of the first: the atom of the second that has it
+	unused int               // how many of the first's nobody has
+	placed []bool            // by atom of the second
 	steps  int
 }
 
@@ -47,7 +47,7 @@ func Follows(s []syntax.Atom, t []syntax.Atom) (bool, api.Errno) {
 // drop finds where the classes with nil or a variable in them are anchored;
 // false, if the second makes one of what the first leaves apart.
 func (q *search) drop() bool {
-	for i := 0; i < classes.Terms; i++ {
+	for i := 0; i < classes.Most; i++ {
 		q.anchor[i] = none
 	}
 	for i := 0; i < classes.FirstHidden; i++ {
@@ -91,7 +91,7 @@ func (q *search) fits(atoms []classes.Pair) bool {
 }
 
 func (q *search) begin(atoms []classes.Pair) {
-	q.atoms = atoms
+	q.view = &classes.Formula{Class: q.first.Class, Apart: q.first.Apart, Owners: atoms}
 	q.unused = len(atoms)
 	q.owner = make([]int, len(atoms))
 	for i := 0; i < len(q.owner); i++ {

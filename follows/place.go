@@ -23,9 +23,9 @@ func (q *search) place(count int) bool {
 	if at != none {
 		return q.walk(k, at, count)
 	}
-	for i := 0; i < len(q.atoms); i++ {
-		q.bound[left] = q.atoms[i].Left
-		if q.walk(k, q.atoms[i].Left, count) {
+	for i := 0; i < len(q.view.Owners); i++ {
+		q.bound[left] = q.view.Owners[i].Left
+		if q.walk(k, q.view.Owners[i].Left, count) {
 			return true
 		}
 	}
@@ -59,20 +59,20 @@ func (q *search) walk(k int, at int, count int) bool {
 	if q.steps < 0 {
 		return false
 	}
-	i := q.begins(at)
+	i := q.view.Begins(at)
 	if i < 0 || q.owner[i] != none {
 		return false
 	}
 	long := q.second.Owners[k].Kind == syntax.List
-	if !long && q.atoms[i].Kind == syntax.List {
+	if !long && q.view.Owners[i].Kind == syntax.List {
 		return false
 	}
 	q.owner[i] = k
 	q.unused--
-	if q.end(k, q.atoms[i].Right, count) {
+	if q.end(k, q.view.Owners[i].Right, count) {
 		return true
 	}
-	if long && q.walk(k, q.atoms[i].Right, count) {
+	if long && q.walk(k, q.view.Owners[i].Right, count) {
 		return true
 	}
 	q.owner[i] = none
@@ -97,16 +97,6 @@ func (q *search) end(k int, at int, count int) bool {
 	return false
 }
 
-// begins tells which atom of the first begins at a class: -1, if none does.
-func (q *search) begins(at int) int {
-	for i := 0; i < len(q.atoms); i++ {
-		if q.atoms[i].Left == at {
-			return i
-		}
-	}
-	return -1
-}
-
 // apart tells whether what the second says is not equal never is. A class that
 // is still open may have a value that nothing else has.
 func (q *search) apart() bool {
@@ -119,23 +109,9 @@ func (q *search) apart() bool {
 		if a == none || b == none {
 			continue
 		}
-		if a == b || !q.differ(a, b) {
+		if !q.view.Differ(a, b) {
 			return false
 		}
 	}
 	return true
-}
-
-// differ tells whether two classes of the first never have one value: it says
-// so, or both begin an atom, or one does and the other is nil.
-func (q *search) differ(a int, b int) bool {
-	for _, p := range q.first.Apart {
-		if p.Left == a && p.Right == b || p.Left == b && p.Right == a {
-			return true
-		}
-	}
-	null := q.first.Class[0]
-	first := q.begins(a) >= 0
-	second := q.begins(b) >= 0
-	return first && (second || b == null) || second && a == null
 }

@@ -14,7 +14,7 @@ const unknown = -1
 // search looks for values of the hidden names.
 type search struct {
 	form  *classes.Formula
-	value [classes.Terms]int // by class
+	value [classes.Most]int // by class
 	heap  *cells.Cells
 	used  []bool // by cell: whether an atom has it
 	free  int    // how many cells no atom has
@@ -39,7 +39,7 @@ func Holds(atoms []syntax.Atom, store []int, heap *cells.Cells) bool {
 // settle gives the classes of nil and of the variables their values; false, if
 // a class would have two.
 func (s *search) settle(store []int) bool {
-	for i := 0; i < classes.Terms; i++ {
+	for i := 0; i < classes.Most; i++ {
 		s.value[i] = unknown
 	}
 	s.value[s.form.Class[0]] = 0

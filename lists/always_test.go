@@ -205,11 +205,3 @@ func TestP2RunsAreApart(t *testing.T) {
 		t.Errorf("P2: %+v, %+v", first.State(), third.State())
 	}
 }
-
-// Until there is an analyser, nothing is promised safe.
-func TestNothingIsAnalysed(t *testing.T) {
-	p := load(t, "pre emp { x = nil; y = x.n; }")
-	if p.Verdict() != api.GaveUp || p.Alarms() != nil || p.Invariant(0) != nil {
-		t.Errorf("P10: %d, %v, %v", p.Verdict(), p.Alarms(), p.Invariant(0))
-	}
-}

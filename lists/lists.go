@@ -2,6 +2,7 @@
 package lists
 
 import (
+	"lists/analysis"
 	"lists/api"
 	"lists/follows"
 	"lists/machine"
@@ -10,7 +11,8 @@ import (
 
 // Program is a program as it was read, and what was found.
 type Program struct {
-	code *syntax.Program
+	code  *syntax.Program
+	found *analysis.Result // nil as long as nobody has asked
 }
 
 // Run is a run of a program.
@@ -91,12 +93,52 @@ func Entails(s string, t string) (bool, api.Errno) {
 	return follows.Follows(first, second)
 }
 
-// Verdict tells what the analyser says (P10). As long as nothing is analysed it
-// could not tell.
-func (x *Program) Verdict() int { return api.GaveUp }
+// analyse analyses the program when it is first asked for: that may take longer
+// than to read and run it.
+func (x *Program) analyse() *analysis.Result {
+	if x.found == nil {
+		x.found = analysis.Of(x.code)
+	}
+	return x.found
+}
+
+// Verdict tells what the analyser says (P10).
+func (x *Program) Verdict() int {
+	if x.empty() {
+		return api.GaveUp
+	}
+	return x.analyse().Verdict
+}
 
 // Alarms tells what may go wrong (P10).
-func (x *Program) Alarms() []api.Alarm { return nil }
+func (x *Program) Alarms() []api.Alarm {
+	if x.empty() {
+		return nil
+	}
+	found := x.analyse()
+	if len(found.Alarms) == 0 {
+		return nil
+	}
+	list := make([]api.Alarm, len(found.Alarms))
+	for i := 0; i < len(list); i++ {
+		list[i] = found.Alarms[i]
+	}
+	return list
+}
 
 // Invariant tells what may stand ahead of a node (P11).
-func (x *Program) Invariant(node int) []string { return nil }
+func (x *Program) Invariant(node int) []string {
+	if x.empty() {
+		return nil
+	}
+	found := x.analyse()
+	if node < 0 || node >= len(found.Known) || len(found.Known[node]) == 0 {
+		return nil
+	}
+	known := found.Known[node]
+	list := make([]string, len(known))
+	for i := 0; i < len(list); i++ {
+		list[i] = known[i].Write(x.code.Vars)
+	}
+	return list
+}
