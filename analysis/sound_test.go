@@ -83,7 +83,7 @@ func TestExactOfSimplePrograms(t *testing.T) {
 	var verdicts [3]int
 	for i := 0; i < 6000; i++ {
 		vars := "xyzw"[:1+next(&seed, 4)]
-		s := "pre " + before(&seed, vars, "AB"[:next(&seed, 3)], "pppde") + "{" + body(&seed, vars, "i", 2) + body(&seed, vars, "i", 1) + "}"
+		s := "pre " + before(&seed, vars, "ABCDE"[:next(&seed, 6)], "pppde") + "{" + body(&seed, vars, "i", 2) + body(&seed, vars, "i", 1) + "}"
 		if len(s) > api.MaxText {
 			continue
 		}

@@ -17,8 +17,8 @@ type Outcome struct {
 	Full     bool               // there were not names enough: formulas are missing
 }
 
-// Of does a node's instruction. The formula is tidy, and is not changed; so are
-// those that come out.
+// Of does a node's instruction. The formula is tidy, and is not changed; those
+// that come out are tidy, too.
 func Of(n syntax.Node, f *classes.Formula) *Outcome {
 	o := &Outcome{}
 	switch n.Op {
@@ -34,17 +34,20 @@ func Of(n syntax.Node, f *classes.Formula) *Outcome {
 	case syntax.Free:
 		o.free(f, n.Var)
 	case syntax.Either:
-		o.goOn(f.Copy())
-		o.turn(f.Copy())
+		yes := f.Copy()
+		o.goOn(yes)
+		no := f.Copy()
+		o.turn(no)
 	case syntax.Same:
 		o.compare(f, n)
 	case syntax.Differs:
 		o.compare(f, n)
-		yes := o.Next
+		equal := o.Next
 		o.Next = o.Other
-		o.Other = yes
+		o.Other = equal
 	default:
-		o.goOn(f.Copy())
+		g := f.Copy()
+		o.goOn(g)
 	}
 	return o
 }

@@ -49,7 +49,10 @@ func (s *Drawn) Within(t *Drawn) bool {
 		return false
 	}
 	q := &search{first: s.Form, second: t.Form, steps: shortPatience}
-	return q.drop() && q.fits(s.Form.Owners)
+	if !q.drop() {
+		return false
+	}
+	return q.fits(s.Form.Owners)
 }
 
 // hasRoom tells whether s has atoms enough for those of t, and no more than t has
