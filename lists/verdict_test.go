@@ -65,6 +65,27 @@ func TestP14Programs(t *testing.T) {
 	}
 }
 
+// The texts of the document's table that are no programs.
+func TestP14Errors(t *testing.T) {
+	for _, c := range []struct {
+		s    string
+		want api.Errno
+	}{
+		{"pre emp { x = X; }", api.ErrSyntax},
+		{"pre emp { free nil; }", api.ErrSyntax},
+		{"pre emp { x.m = y; }", api.ErrSyntax},
+		{"pre emp { x = y }", api.ErrSyntax},
+		{"pre { }", api.ErrSyntax},
+		{"emp { }", api.ErrSyntax},
+		{"pre x -> 1 { }", api.ErrLex},
+		{"pre emp { a = b; c = d; e = a; }", api.ErrNames},
+	} {
+		if p, e := lists.Load(c.s); e != c.want || p != nil {
+			t.Errorf("P14: Load(%q) = %v, %d, want %d", c.s, p, e, c.want)
+		}
+	}
+}
+
 // changed makes another program of one: commands come, go and change.
 func changed(seed *uint32, s string) string {
 	open := strings.Index(s, "{")
